@@ -79,7 +79,21 @@ func made(e api.Expr, by func(api.Expr) api.Expr) api.Expr {
 	for i, part := range parts {
 		parts[i] = made(part, by)
 	}
-	return by(api.Expr{Op: e.Op, N: e.N, V: cell.Clean(e.V), Args: parts})
+	node := needed(e)
+	node.Args = parts
+	return by(node)
+}
+
+// needed: a node without its parts, with no more than its operator needs, so
+// that expressions which mean the same are told alike.
+func needed(e api.Expr) api.Expr {
+	switch e.Op {
+	case api.Col:
+		return api.Expr{Op: api.Col, N: e.N}
+	case api.Const:
+		return constant(cell.Clean(e.V))
+	}
+	return api.Expr{Op: e.Op}
 }
 
 // copied into new memory, whether it is built or not.
