@@ -9,6 +9,15 @@ import (
 // work out a value over a row.
 type work func(row []api.Value) api.Value
 
+// Ready: what answers as Eval does, for whoever has many rows: e is looked at
+// once, and not kept.
+func Ready(e api.Expr) func(row []api.Value) api.Value {
+	if !isBuilt(e) {
+		return func([]api.Value) api.Value { return api.Value{} }
+	}
+	return ready(e)
+}
+
 // ready: what works out an expression that is built: a function of those that
 // work out its parts, so that its operators are looked at once for all rows.
 func ready(e api.Expr) work {

@@ -15,8 +15,8 @@ const (
 	mostNested = 1 << 17
 )
 
-// arity: how many parts an operator has; -1, if there is no such operator.
-func arity(op int) int {
+// Arity: how many parts an operator has; -1, if there is no such operator.
+func Arity(op int) int {
 	switch {
 	case op == api.Col, op == api.Const:
 		return 0
@@ -32,7 +32,7 @@ func arity(op int) int {
 
 // isSound: is this node, without regard to its parts, one that may be?
 func isSound(e api.Expr) bool {
-	if len(e.Args) != arity(e.Op) {
+	if len(e.Args) != Arity(e.Op) {
 		return false
 	}
 	switch e.Op {

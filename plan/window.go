@@ -1,0 +1,107 @@
+package plan
+
+import (
+	"slices"
+
+	"tallyhouse/api"
+)
+
+// eachInWindow: each row, and what the window function says of it in its part.
+func (n *node) eachInWindow(take taker) {
+	for _, part := range n.parts() {
+		slices.SortFunc(part, inOrder(n.plan.Keys))
+		values := inPart(n.plan, part)
+		for i, row := range part {
+			take(append(row, values[i]))
+		}
+	}
+}
+
+// parts of the rows of the Arg: those with equal values in Cols.
+func (n *node) parts() [][][]api.Value {
+	var parts [][][]api.Value
+	places := map[string]int{}
+	n.args[0].each(func(row []api.Value) {
+		key := keyAt(row, n.plan.Cols)
+		at, there := places[key]
+		if !there {
+			at = len(parts)
+			places[key] = at
+			parts = append(parts, nil)
+		}
+		parts[at] = append(parts[at], slices.Clone(row))
+	})
+	return parts
+}
+
+// inPart: what p's function says of each row of a part that is in order.
+func inPart(p api.Plan, part [][]api.Value) []api.Value {
+	switch p.Fn {
+	case api.Number:
+		return numbered(part)
+	case api.Rank, api.Dense:
+		return ranked(part, p.Keys, p.Fn == api.Dense)
+	case api.Ahead:
+		return ahead(part, p.Col, p.N)
+	}
+	return summed(part, p.Col, p.N, p.Fn == api.CountOver)
+}
+
+func integer(n int) api.Value { return api.Value{Kind: api.Int, N: int64(n)} }
+
+func numbered(part [][]api.Value) []api.Value {
+	values := make([]api.Value, len(part))
+	for i := range part {
+		values[i] = integer(i + 1)
+	}
+	return values
+}
+
+// ranked: rows that are equal by keys have one rank, that of the first of
+// them; in a dense one no number is left out.
+func ranked(part [][]api.Value, keys []api.Key, dense bool) []api.Value {
+	order := byKeys(keys)
+	values := make([]api.Value, len(part))
+	unlike, first := 0, 0
+	for i, row := range part {
+		if i == 0 || order(part[i-1], row) != 0 {
+			unlike, first = unlike+1, i
+		}
+		if dense {
+			values[i] = integer(unlike)
+		} else {
+			values[i] = integer(first + 1)
+		}
+	}
+	return values
+}
+
+// ahead: the column's value in the row that is n rows ahead.
+func ahead(part [][]api.Value, column, n int) []api.Value {
+	values := make([]api.Value, len(part))
+	for i := range part {
+		if n <= i {
+			values[i] = part[i-n][column]
+		}
+	}
+	return values
+}
+
+// summed: the sum, or the count, of the column over each row and the n rows
+// ahead of it; over all ahead, if n is below 0.
+func summed(part [][]api.Value, column, n int, count bool) []api.Value {
+	values := make([]api.Value, len(part))
+	var over sum
+	for i, row := range part {
+		over.add(row[column])
+		if n >= 0 && i > n {
+			over.remove(part[i-n-1][column])
+		}
+		if count {
+			values[i] = integer(over.count)
+		} else {
+			values[i] = over.value()
+		}
+	}
+	return values
+}
