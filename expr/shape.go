@@ -96,8 +96,8 @@ func needed(e api.Expr) api.Expr {
 	return api.Expr{Op: e.Op}
 }
 
-// copied into new memory, whether it is built or not.
-func copied(e api.Expr) api.Expr {
+// Copied into new memory, whether it is built or not.
+func Copied(e api.Expr) api.Expr {
 	_, _, ends := measured(e, mostNodes, mostNested, func(api.Expr) bool { return true })
 	if !ends {
 		return e

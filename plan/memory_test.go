@@ -220,3 +220,21 @@ func TestParsedPlansAreNewMemory(t *testing.T) {
 		}
 	})
 }
+
+func TestCopiedPlansAreNewMemory(t *testing.T) {
+	each(8, 500, func(m maker, p api.Plan) {
+		before := roomyPlan(p)
+		p = roomyPlan(p)
+		first, second := plan.Copied(p), plan.Copied(p)
+		exprs, plans, numbers, keys, aggs := map[*api.Expr]int{}, map[*api.Plan]int{}, map[*int]int{}, map[*api.Key]int{}, map[*api.Agg]int{}
+		for _, one := range []api.Plan{p, first, second} {
+			lists(one, exprs, plans, numbers, keys, aggs)
+		}
+		if twice(exprs) || twice(plans) || twice(numbers) || twice(keys) || twice(aggs) {
+			t.Fatalf("a copy of %v shares memory", p)
+		}
+		if !same(first, before) || !same(second, before) {
+			t.Fatalf("%v is no copy of %v", first, before)
+		}
+	})
+}
