@@ -58,27 +58,3 @@ func (s schema) kinds(plans ...api.Plan) []int {
 
 // width of a plan: how many columns it has.
 func (s schema) width(p api.Plan) int { return len(s.kinds(p)) }
-
-// scanned: those of the tables of which p speaks, so that the others, which may
-// be many, are not looked at again and again.
-func scanned(p api.Plan, tables []api.Table) schema {
-	times := map[string]int{}
-	countScans(p, times)
-	var few schema
-	for _, table := range tables {
-		if times[table.Name] > 0 {
-			few = append(few, table)
-		}
-	}
-	return few
-}
-
-// countScans in p: how often it speaks of each table.
-func countScans(p api.Plan, times map[string]int) {
-	if p.Op == api.Scan {
-		times[p.Table]++
-	}
-	for _, arg := range p.Args {
-		countScans(arg, times)
-	}
-}
