@@ -24,18 +24,14 @@ func (n *node) each(take taker) {
 		n.eachWorkedOut(take)
 	case api.Join, api.LeftJoin:
 		n.eachPair(take)
-	case api.Group:
-		n.eachGroup(take)
+	case api.Group, api.Top, api.Window:
+		n.eachGathered(take)
 	case api.Distinct:
 		n.eachUnlike(take)
 	case api.Union:
 		for i := range n.args {
 			n.args[i].each(take)
 		}
-	case api.Top:
-		n.eachFirst(take)
-	case api.Window:
-		n.eachInWindow(take)
 	case api.Minus:
 		n.eachLeft(take)
 	}

@@ -14,47 +14,58 @@ func at(row []api.Value, columns []int) []api.Value {
 	return values
 }
 
-// keyAt: the same text for rows with equal values in these columns.
-func keyAt(row []api.Value, columns []int) string { return cell.Key(at(row, columns)) }
-
 // group of rows: what they have in common, and what is gathered of them.
 type group struct {
 	common   []api.Value
 	gathered []gathered
 }
 
-// eachGroup: of each group what is common, and the aggregates.
-func (n *node) eachGroup(take taker) {
-	p := n.plan
-	var groups []group
-	places := map[string]int{}
-	placeOf := func(common []api.Value) int {
-		key := cell.Key(common)
-		at, there := places[key]
-		if !there {
-			at = len(groups)
-			places[key] = at
-			groups = append(groups, group{common: common, gathered: make([]gathered, len(p.Aggs))})
-		}
-		return at
-	}
+// groups of rows with equal values in the columns of a Group.
+type groups struct {
+	plan   api.Plan
+	list   []group
+	places map[string]int
+}
+
+func newGroups(p api.Plan) *groups {
+	g := &groups{plan: p, places: map[string]int{}}
 	// Without columns there is one group, of no rows as well.
 	if len(p.Cols) == 0 {
-		placeOf(nil)
+		g.placeOf(nil)
 	}
-	n.args[0].each(func(row []api.Value) {
-		g := groups[placeOf(at(row, p.Cols))]
-		for i, agg := range p.Aggs {
-			g.gathered[i].add(agg.Fn, row[agg.Col])
-		}
-	})
-	for _, g := range groups {
-		row := g.common
-		for i, agg := range p.Aggs {
-			row = append(row, g.gathered[i].value(agg.Fn))
-		}
-		take(row)
+	return g
+}
+
+// placeOf the group that has this in common, which may be a new one.
+func (g *groups) placeOf(common []api.Value) int {
+	key := cell.Key(common)
+	at, there := g.places[key]
+	if !there {
+		at = len(g.list)
+		g.places[key] = at
+		g.list = append(g.list, group{common: common, gathered: make([]gathered, len(g.plan.Aggs))})
 	}
+	return at
+}
+
+// Add a row to its group.
+func (g *groups) Add(row []api.Value) {
+	one := g.list[g.placeOf(at(row, g.plan.Cols))]
+	for i, agg := range g.plan.Aggs {
+		one.gathered[i].add(agg.Fn, row[agg.Col])
+	}
+}
+
+// Rows: of each group what is common, and the aggregates.
+func (g *groups) Rows() [][]api.Value {
+	rows := make([][]api.Value, len(g.list))
+	for i, one := range g.list {
+		rows[i] = one.common
+		for k, agg := range g.plan.Aggs {
+			rows[i] = append(rows[i], one.gathered[k].value(agg.Fn))
+		}
+	}
+	return rows
 }
 
 // gathered: what has been seen of a column, as far as one aggregate asks.

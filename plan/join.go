@@ -1,6 +1,8 @@
 package plan
 
 import (
+	"slices"
+
 	"tallyhouse/api"
 	"tallyhouse/cell"
 	"tallyhouse/expr"
@@ -9,12 +11,13 @@ import (
 // most: above this spans are not told apart.
 const most = 1 << 31
 
-// span: a number of rows that a plan does not exceed.
-func (n *node) span() int {
+// Span: a number of rows that a plan of this operator does not exceed, if its
+// Args do not exceed these.
+func Span(op int, args []int) int {
 	span := 1
-	for i := range n.args {
-		more := n.args[i].span()
-		switch n.plan.Op {
+	for _, arg := range args {
+		more := min(arg, most)
+		switch op {
 		case api.Join, api.LeftJoin:
 			span = min(span*more, most)
 		case api.Union:
@@ -23,22 +26,46 @@ func (n *node) span() int {
 			span = max(span, more)
 		}
 	}
-	return max(span, len(n.table.Rows))
+	return span
 }
 
-// pairing of the rows of two plans.
-type pairing struct {
+func (n *node) span() int {
+	args := make([]int, len(n.args))
+	for i := range n.args {
+		args[i] = n.args[i].span()
+	}
+	return max(Span(n.plan.Op, args), len(n.table.Rows))
+}
+
+// Pairing of the rows of the Args of a Join or LeftJoin: those of the one are
+// held, and those of the other one go by them.
+type Pairing struct {
 	pair  []api.Value    // both rows of the pair that is looked at
 	sides [2][]api.Value // where in it each of them lies
 	holds func(row []api.Value) api.Value
 	// equal: what of each row must be equal to what of the other one, for
 	// which a row of the pair is read alone.
 	equal [2][]func(row []api.Value) api.Value
+	held  int  // the number of the Arg whose rows are held
+	alone bool // does a row of the first Arg stand for itself, if it has no partner?
+	rows  [][]api.Value
+	met   []bool           // which of them have had a partner
+	by    map[string][]int // which of them have one key
 }
 
-func newPairing(condition api.Expr, first, second int) pairing {
+// NewPairing for p, whose Args have so many columns; the rows of the Arg of
+// this number are to be held.
+func NewPairing(p api.Plan, first, second, held int) *Pairing {
 	pair := make([]api.Value, first+second)
-	p := pairing{pair: pair, sides: [2][]api.Value{pair[:first], pair[first:]}, holds: expr.Ready(condition)}
+	condition := p.Exprs[0]
+	made := &Pairing{
+		pair:  pair,
+		sides: [2][]api.Value{pair[:first], pair[first:]},
+		holds: expr.Ready(condition),
+		held:  held,
+		alone: p.Op == api.LeftJoin,
+		by:    map[string][]int{},
+	}
 	for _, part := range expr.Parts(condition) {
 		if part.Op != api.Eq {
 			continue
@@ -48,11 +75,11 @@ func newPairing(condition api.Expr, first, second int) pairing {
 			left, right = right, left
 		}
 		if sideOf(left, first) == 0 && sideOf(right, first) == 1 {
-			p.equal[0] = append(p.equal[0], expr.Ready(left))
-			p.equal[1] = append(p.equal[1], expr.Ready(right))
+			made.equal[0] = append(made.equal[0], expr.Ready(left))
+			made.equal[1] = append(made.equal[1], expr.Ready(right))
 		}
 	}
-	return p
+	return made
 }
 
 // sideOf which of two rows the columns in e are, if the first one has so many;
@@ -72,7 +99,7 @@ func sideOf(e api.Expr, first int) int {
 
 // lay a row where those of this side lie, and tell the key that a partner must
 // have; false, if it has no partner, since a null is equal to nothing.
-func (p *pairing) lay(side int, row []api.Value) (string, bool) {
+func (p *Pairing) lay(side int, row []api.Value) (string, bool) {
 	copy(p.sides[side], row)
 	values := make([]api.Value, len(p.equal[side]))
 	for i, value := range p.equal[side] {
@@ -84,56 +111,69 @@ func (p *pairing) lay(side int, row []api.Value) (string, bool) {
 	return cell.Key(values), true
 }
 
+// standAlone: does a row of this side stand for itself, if it has no partner?
+func (p *Pairing) standAlone(side int) bool { return p.alone && side == 0 }
+
+// Hold a row, if anything can come of it. It is lent for the call alone.
+func (p *Pairing) Hold(row []api.Value) {
+	key, can := p.lay(p.held, row)
+	if can {
+		p.by[key] = append(p.by[key], len(p.rows))
+	}
+	if can || p.standAlone(p.held) {
+		p.rows = append(p.rows, slices.Clone(row))
+		p.met = append(p.met, false)
+	}
+}
+
+// IsVain: will nothing come of any row that goes by?
+func (p *Pairing) IsVain() bool { return len(p.rows) == 0 && !p.standAlone(1-p.held) }
+
+// Pass a row by those that are held: each pair for which the condition is true
+// is handed to take; or it alone, if there is none. All is lent for the call.
+func (p *Pairing) Pass(row []api.Value, take func(pair []api.Value)) {
+	passing := 1 - p.held
+	alone := p.standAlone(passing)
+	if key, can := p.lay(passing, row); can {
+		for _, i := range p.by[key] {
+			copy(p.sides[p.held], p.rows[i])
+			if cell.True(p.holds(p.pair)) {
+				alone, p.met[i] = false, true
+				take(p.pair)
+			}
+		}
+	}
+	if alone {
+		p.takeAlone(row, take)
+	}
+}
+
+// Rest: behind all that went by, each row that was held and stands alone.
+func (p *Pairing) Rest(take func(pair []api.Value)) {
+	for i, row := range p.rows {
+		if p.standAlone(p.held) && !p.met[i] {
+			p.takeAlone(row, take)
+		}
+	}
+}
+
+// takeAlone a row of the first side, with nulls behind it.
+func (p *Pairing) takeAlone(row []api.Value, take func(pair []api.Value)) {
+	copy(p.sides[0], row)
+	clear(p.sides[1])
+	take(p.pair)
+}
+
 // eachPair of rows of both Args for which the condition is true; of a LeftJoin
 // each row of the first one without a partner as well. The rows of the Arg
-// that can have fewer are held, and those of the other one go by them.
+// that can have fewer are held.
 func (n *node) eachPair(take taker) {
-	p := newPairing(n.plan.Exprs[0], len(n.args[0].kinds), len(n.args[1].kinds))
 	held, passing := 1, 0
 	if n.args[0].span() < n.args[1].span() {
 		held, passing = 0, 1
 	}
-	all := n.plan.Op == api.LeftJoin
-	rows := n.args[held].rows()
-	places := p.placesByKey(held, rows)
-	met := make([]bool, len(rows))
-	n.args[passing].each(func(row []api.Value) {
-		alone := true
-		key, can := p.lay(passing, row)
-		if can {
-			for _, i := range places[key] {
-				copy(p.sides[held], rows[i])
-				if cell.True(p.holds(p.pair)) {
-					alone, met[i] = false, true
-					take(p.pair)
-				}
-			}
-		}
-		if all && passing == 0 && alone {
-			p.takeAlone(row, take)
-		}
-	})
-	for i, row := range rows {
-		if all && held == 0 && !met[i] {
-			p.takeAlone(row, take)
-		}
-	}
-}
-
-// placesByKey: where those of the rows of this side are that have one key.
-func (p *pairing) placesByKey(side int, rows [][]api.Value) map[string][]int {
-	places := map[string][]int{}
-	for i, row := range rows {
-		if key, can := p.lay(side, row); can {
-			places[key] = append(places[key], i)
-		}
-	}
-	return places
-}
-
-// takeAlone a row of the first side, with nulls behind it.
-func (p *pairing) takeAlone(row []api.Value, take taker) {
-	copy(p.sides[0], row)
-	clear(p.sides[1])
-	take(p.pair)
+	p := NewPairing(n.plan, len(n.args[0].kinds), len(n.args[1].kinds), held)
+	n.args[held].each(p.Hold)
+	n.args[passing].each(func(row []api.Value) { p.Pass(row, take) })
+	p.Rest(take)
 }

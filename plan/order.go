@@ -38,26 +38,36 @@ func inOrder(keys []api.Key) func(a, b []api.Value) int {
 	}
 }
 
-// eachFirst: of the rows in order N, behind the first Off. Only those that may
-// still be among them are held.
-func (n *node) eachFirst(take taker) {
-	p := n.plan
+// first rows of a Top, in order. Only those that may still be among them are
+// held.
+type first struct {
+	order func(a, b []api.Value) int
+	off   int // how many of them are left out
+	end   int // how many they are, with these
+	rows  [][]api.Value
+}
+
+func newFirst(p api.Plan) *first {
 	// Both are not below 0, but they may be more than an int together.
-	end := p.N + min(p.Off, math.MaxInt-p.N)
-	order := inOrder(p.Keys)
-	var first [][]api.Value
-	keepFirst := func() {
-		slices.SortFunc(first, order)
-		first = slices.Delete(first, min(end, len(first)), len(first))
+	return &first{order: inOrder(p.Keys), off: p.Off, end: p.N + min(p.Off, math.MaxInt-p.N)}
+}
+
+// Add a row.
+func (f *first) Add(row []api.Value) {
+	f.rows = append(f.rows, slices.Clone(row))
+	if len(f.rows)/2 >= max(f.end, fewest) {
+		f.keep()
 	}
-	n.args[0].each(func(row []api.Value) {
-		first = append(first, slices.Clone(row))
-		if len(first)/2 >= max(end, fewest) {
-			keepFirst()
-		}
-	})
-	keepFirst()
-	for _, row := range first[min(p.Off, len(first)):] {
-		take(row)
-	}
+}
+
+// keep the first ones alone.
+func (f *first) keep() {
+	slices.SortFunc(f.rows, f.order)
+	f.rows = slices.Delete(f.rows, min(f.end, len(f.rows)), len(f.rows))
+}
+
+// Rows: N of them, behind the first Off.
+func (f *first) Rows() [][]api.Value {
+	f.keep()
+	return f.rows[min(f.off, len(f.rows)):]
 }

@@ -4,34 +4,42 @@ import (
 	"slices"
 
 	"tallyhouse/api"
+	"tallyhouse/cell"
 )
 
-// eachInWindow: each row, and what the window function says of it in its part.
-func (n *node) eachInWindow(take taker) {
-	for _, part := range n.parts() {
-		slices.SortFunc(part, inOrder(n.plan.Keys))
-		values := inPart(n.plan, part)
-		for i, row := range part {
-			take(append(row, values[i]))
-		}
-	}
+// parts of the rows of a Window: those with equal values in its columns.
+type parts struct {
+	plan   api.Plan
+	list   [][][]api.Value
+	places map[string]int
 }
 
-// parts of the rows of the Arg: those with equal values in Cols.
-func (n *node) parts() [][][]api.Value {
-	var parts [][][]api.Value
-	places := map[string]int{}
-	n.args[0].each(func(row []api.Value) {
-		key := keyAt(row, n.plan.Cols)
-		at, there := places[key]
-		if !there {
-			at = len(parts)
-			places[key] = at
-			parts = append(parts, nil)
+func newParts(p api.Plan) *parts { return &parts{plan: p, places: map[string]int{}} }
+
+// Add a row to its part.
+func (p *parts) Add(row []api.Value) {
+	key := cell.Key(at(row, p.plan.Cols))
+	place, there := p.places[key]
+	if !there {
+		place = len(p.list)
+		p.places[key] = place
+		p.list = append(p.list, nil)
+	}
+	// There is room for what the window function says of it.
+	held := append(make([]api.Value, 0, len(row)+1), row...)
+	p.list[place] = append(p.list[place], held)
+}
+
+// Rows: each row, and what the window function says of it in its part.
+func (p *parts) Rows() [][]api.Value {
+	var rows [][]api.Value
+	for _, part := range p.list {
+		slices.SortFunc(part, inOrder(p.plan.Keys))
+		for i, value := range inPart(p.plan, part) {
+			rows = append(rows, append(part[i], value))
 		}
-		parts[at] = append(parts[at], slices.Clone(row))
-	})
-	return parts
+	}
+	return rows
 }
 
 // inPart: what p's function says of each row of a part that is in order.

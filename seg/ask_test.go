@@ -31,6 +31,9 @@ func TestColumn(t *testing.T) {
 				t.Errorf("Column %d of %.200v: %.200v, error %d", i, a.rows, v, e)
 			}
 		}
+		if all, e := seg.Columns(text); e != api.OK || len(all) != len(a.kinds) || !sameVec(all[0], a.column(0)) || !sameVec(all[len(all)-1], a.column(len(all)-1)) {
+			t.Errorf("Columns of %.200v: %.200v, error %d", a.rows, all, e)
+		}
 		for _, i := range []int{-1, math.MinInt, len(a.kinds), len(a.kinds) + 1, 256, 1 << 32, math.MaxInt} {
 			if v, e := seg.Column(text, i); e != api.ErrArg || !reflect.DeepEqual(v, api.Vec{}) {
 				t.Errorf("Column %d of %d: %.200v, error %d", i, len(a.kinds), v, e)

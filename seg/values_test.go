@@ -215,6 +215,9 @@ func refused(t *testing.T, what, text string) {
 	if h, e := seg.Head(text); e != api.ErrDamage || !reflect.DeepEqual(h, api.Head{}) {
 		t.Errorf("%s: Head %v, error %d", what, h, e)
 	}
+	if all, e := seg.Columns(text); e != api.ErrDamage || all != nil {
+		t.Errorf("%s: Columns: %.200v, error %d", what, all, e)
+	}
 	for _, i := range []int{-1, 0, 1, 99} {
 		if v, e := seg.Column(text, i); e != api.ErrDamage || !reflect.DeepEqual(v, api.Vec{}) {
 			t.Errorf("%s: Column %d: %.200v, error %d", what, i, v, e)
