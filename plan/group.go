@@ -5,8 +5,8 @@ import (
 	"tallyhouse/cell"
 )
 
-// at: the values of these columns of a row.
-func at(row []api.Value, columns []int) []api.Value {
+// At: the values of these columns of a row that has them.
+func At(row []api.Value, columns []int) []api.Value {
 	values := make([]api.Value, len(columns))
 	for i, column := range columns {
 		values[i] = row[column]
@@ -50,7 +50,7 @@ func (g *groups) placeOf(common []api.Value) int {
 
 // Add a row to its group.
 func (g *groups) Add(row []api.Value) {
-	one := g.list[g.placeOf(at(row, g.plan.Cols))]
+	one := g.list[g.placeOf(At(row, g.plan.Cols))]
 	for i, agg := range g.plan.Aggs {
 		one.gathered[i].add(agg.Fn, row[agg.Col])
 	}
@@ -71,7 +71,7 @@ func (g *groups) Rows() [][]api.Value {
 // gathered: what has been seen of a column, as far as one aggregate asks.
 type gathered struct {
 	rows  int
-	sum   sum
+	sum   Sum
 	best  api.Value
 	times map[string]int
 }
@@ -79,7 +79,7 @@ type gathered struct {
 // add a value, for the aggregate fn.
 func (g *gathered) add(fn int, v api.Value) {
 	g.rows++
-	g.sum.add(v)
+	g.sum.Add(v, 1)
 	if v.Kind == api.Null {
 		return
 	}
@@ -105,13 +105,13 @@ func (g *gathered) add(fn int, v api.Value) {
 func (g *gathered) value(fn int) api.Value {
 	switch fn {
 	case api.CountAll:
-		return integer(g.rows)
+		return Integer(int64(g.rows))
 	case api.Count:
-		return integer(g.sum.count)
+		return Integer(g.sum.Count())
 	case api.Sum:
-		return g.sum.value()
+		return g.sum.Value()
 	case api.CountEach:
-		return integer(len(g.times))
+		return Integer(int64(len(g.times)))
 	}
 	return g.best
 }

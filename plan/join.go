@@ -4,8 +4,6 @@ import (
 	"slices"
 
 	"tallyhouse/api"
-	"tallyhouse/cell"
-	"tallyhouse/expr"
 )
 
 // most: above this spans are not told apart.
@@ -40,12 +38,7 @@ func (n *node) span() int {
 // Pairing of the rows of the Args of a Join or LeftJoin: those of the one are
 // held, and those of the other one go by them.
 type Pairing struct {
-	pair  []api.Value    // both rows of the pair that is looked at
-	sides [2][]api.Value // where in it each of them lies
-	holds func(row []api.Value) api.Value
-	// equal: what of each row must be equal to what of the other one, for
-	// which a row of the pair is read alone.
-	equal [2][]func(row []api.Value) api.Value
+	*Matching
 	held  int  // the number of the Arg whose rows are held
 	alone bool // does a row of the first Arg stand for itself, if it has no partner?
 	rows  [][]api.Value
@@ -56,59 +49,7 @@ type Pairing struct {
 // NewPairing for p, whose Args have so many columns; the rows of the Arg of
 // this number are to be held.
 func NewPairing(p api.Plan, first, second, held int) *Pairing {
-	pair := make([]api.Value, first+second)
-	condition := p.Exprs[0]
-	made := &Pairing{
-		pair:  pair,
-		sides: [2][]api.Value{pair[:first], pair[first:]},
-		holds: expr.Ready(condition),
-		held:  held,
-		alone: p.Op == api.LeftJoin,
-		by:    map[string][]int{},
-	}
-	for _, part := range expr.Parts(condition) {
-		if part.Op != api.Eq {
-			continue
-		}
-		left, right := part.Args[0], part.Args[1]
-		if sideOf(left, first) == 1 {
-			left, right = right, left
-		}
-		if sideOf(left, first) == 0 && sideOf(right, first) == 1 {
-			made.equal[0] = append(made.equal[0], expr.Ready(left))
-			made.equal[1] = append(made.equal[1], expr.Ready(right))
-		}
-	}
-	return made
-}
-
-// sideOf which of two rows the columns in e are, if the first one has so many;
-// -1, if there are none, or of both.
-func sideOf(e api.Expr, first int) int {
-	columns := expr.Columns(e)
-	switch {
-	case len(columns) == 0:
-		return -1
-	case columns[len(columns)-1] < first:
-		return 0
-	case columns[0] >= first:
-		return 1
-	}
-	return -1
-}
-
-// lay a row where those of this side lie, and tell the key that a partner must
-// have; false, if it has no partner, since a null is equal to nothing.
-func (p *Pairing) lay(side int, row []api.Value) (string, bool) {
-	copy(p.sides[side], row)
-	values := make([]api.Value, len(p.equal[side]))
-	for i, value := range p.equal[side] {
-		values[i] = value(p.pair)
-		if values[i].Kind == api.Null {
-			return "", false
-		}
-	}
-	return cell.Key(values), true
+	return &Pairing{Matching: NewMatching(p, first, second), held: held, alone: p.Op == api.LeftJoin, by: map[string][]int{}}
 }
 
 // standAlone: does a row of this side stand for itself, if it has no partner?
@@ -116,7 +57,7 @@ func (p *Pairing) standAlone(side int) bool { return p.alone && side == 0 }
 
 // Hold a row, if anything can come of it. It is lent for the call alone.
 func (p *Pairing) Hold(row []api.Value) {
-	key, can := p.lay(p.held, row)
+	key, can := p.Lay(p.held, row)
 	if can {
 		p.by[key] = append(p.by[key], len(p.rows))
 	}
@@ -134,17 +75,16 @@ func (p *Pairing) IsVain() bool { return len(p.rows) == 0 && !p.standAlone(1-p.h
 func (p *Pairing) Pass(row []api.Value, take func(pair []api.Value)) {
 	passing := 1 - p.held
 	alone := p.standAlone(passing)
-	if key, can := p.lay(passing, row); can {
+	if key, can := p.Lay(passing, row); can {
 		for _, i := range p.by[key] {
-			copy(p.sides[p.held], p.rows[i])
-			if cell.True(p.holds(p.pair)) {
+			if pair, match := p.Pair(p.held, p.rows[i]); match {
 				alone, p.met[i] = false, true
-				take(p.pair)
+				take(pair)
 			}
 		}
 	}
 	if alone {
-		p.takeAlone(row, take)
+		take(p.Alone(row))
 	}
 }
 
@@ -152,16 +92,9 @@ func (p *Pairing) Pass(row []api.Value, take func(pair []api.Value)) {
 func (p *Pairing) Rest(take func(pair []api.Value)) {
 	for i, row := range p.rows {
 		if p.standAlone(p.held) && !p.met[i] {
-			p.takeAlone(row, take)
+			take(p.Alone(row))
 		}
 	}
-}
-
-// takeAlone a row of the first side, with nulls behind it.
-func (p *Pairing) takeAlone(row []api.Value, take func(pair []api.Value)) {
-	copy(p.sides[0], row)
-	clear(p.sides[1])
-	take(p.pair)
 }
 
 // eachPair of rows of both Args for which the condition is true; of a LeftJoin

@@ -27,8 +27,8 @@ func byKeys(keys []api.Key) func(a, b []api.Value) int {
 	}
 }
 
-// inOrder: the order of two rows by these columns, then by all of them.
-func inOrder(keys []api.Key) func(a, b []api.Value) int {
+// InOrder: the order of two rows by these columns, then by all of them.
+func InOrder(keys []api.Key) func(a, b []api.Value) int {
 	ahead := byKeys(keys)
 	return func(a, b []api.Value) int {
 		if order := ahead(a, b); order != 0 {
@@ -49,7 +49,7 @@ type first struct {
 
 func newFirst(p api.Plan) *first {
 	// Both are not below 0, but they may be more than an int together.
-	return &first{order: inOrder(p.Keys), off: p.Off, end: p.N + min(p.Off, math.MaxInt-p.N)}
+	return &first{order: InOrder(p.Keys), off: p.Off, end: p.N + min(p.Off, math.MaxInt-p.N)}
 }
 
 // Add a row.

@@ -58,10 +58,11 @@ func areUnlike[T comparable](list []T) bool {
 // hasWrongRow: has a table, whose columns are good, a row that does not fit
 // them?
 func hasWrongRow(table api.Table) bool {
-	return slices.ContainsFunc(table.Rows, func(row []api.Value) bool { return !fitsRow(row, table.Columns) })
+	return slices.ContainsFunc(table.Rows, func(row []api.Value) bool { return !Fits(row, table.Columns) })
 }
 
-func fitsRow(row []api.Value, columns []api.Column) bool {
+// Fits: may the row stand in a table of these columns, which are good?
+func Fits(row []api.Value, columns []api.Column) bool {
 	if len(row) != len(columns) {
 		return false
 	}

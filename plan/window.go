@@ -18,7 +18,7 @@ func newParts(p api.Plan) *parts { return &parts{plan: p, places: map[string]int
 
 // Add a row to its part.
 func (p *parts) Add(row []api.Value) {
-	key := cell.Key(at(row, p.plan.Cols))
+	key := cell.Key(At(row, p.plan.Cols))
 	place, there := p.places[key]
 	if !there {
 		place = len(p.list)
@@ -34,16 +34,17 @@ func (p *parts) Add(row []api.Value) {
 func (p *parts) Rows() [][]api.Value {
 	var rows [][]api.Value
 	for _, part := range p.list {
-		slices.SortFunc(part, inOrder(p.plan.Keys))
-		for i, value := range inPart(p.plan, part) {
+		slices.SortFunc(part, InOrder(p.plan.Keys))
+		for i, value := range InPart(p.plan, part) {
 			rows = append(rows, append(part[i], value))
 		}
 	}
 	return rows
 }
 
-// inPart: what p's function says of each row of a part that is in order.
-func inPart(p api.Plan, part [][]api.Value) []api.Value {
+// InPart: what the function of p, a Window, says of each row of a part that is in
+// order.
+func InPart(p api.Plan, part [][]api.Value) []api.Value {
 	switch p.Fn {
 	case api.Number:
 		return numbered(part)
@@ -55,12 +56,10 @@ func inPart(p api.Plan, part [][]api.Value) []api.Value {
 	return summed(part, p.Col, p.N, p.Fn == api.CountOver)
 }
 
-func integer(n int) api.Value { return api.Value{Kind: api.Int, N: int64(n)} }
-
 func numbered(part [][]api.Value) []api.Value {
 	values := make([]api.Value, len(part))
 	for i := range part {
-		values[i] = integer(i + 1)
+		values[i] = Integer(int64(i + 1))
 	}
 	return values
 }
@@ -76,9 +75,9 @@ func ranked(part [][]api.Value, keys []api.Key, dense bool) []api.Value {
 			unlike, first = unlike+1, i
 		}
 		if dense {
-			values[i] = integer(unlike)
+			values[i] = Integer(int64(unlike))
 		} else {
-			values[i] = integer(first + 1)
+			values[i] = Integer(int64(first + 1))
 		}
 	}
 	return values
@@ -99,16 +98,16 @@ func ahead(part [][]api.Value, column, n int) []api.Value {
 // ahead of it; over all ahead, if n is below 0.
 func summed(part [][]api.Value, column, n int, count bool) []api.Value {
 	values := make([]api.Value, len(part))
-	var over sum
+	var over Sum
 	for i, row := range part {
-		over.add(row[column])
+		over.Add(row[column], 1)
 		if n >= 0 && i > n {
-			over.remove(part[i-n-1][column])
+			over.Add(part[i-n-1][column], -1)
 		}
 		if count {
-			values[i] = integer(over.count)
+			values[i] = Integer(over.Count())
 		} else {
-			values[i] = over.value()
+			values[i] = over.Value()
 		}
 	}
 	return values
