@@ -36,9 +36,8 @@ func ensure(so bool) {
 	}
 }
 
-// read the plan that a tree is; false, if it is none. It may be one that is
-// not built.
-func read(tree token.Tree) (p api.Plan, ok bool) {
+// read a tree so; false, if it is not what must stand there.
+func read[T any](tree token.Tree, in func(token.Tree) T) (what T, ok bool) {
 	defer func() {
 		// Where something was thrown both answers are still zero.
 		thrown := recover()
@@ -46,8 +45,20 @@ func read(tree token.Tree) (p api.Plan, ok bool) {
 			panic(thrown)
 		}
 	}()
-	return planIn(tree), true
+	return in(tree), true
 }
+
+// PlanIn a tree; false, if it is none. It may be one that is not built.
+func PlanIn(tree token.Tree) (api.Plan, bool) { return read(tree, planIn) }
+
+// NameIn a tree: that of a table or a column; false, if it is none.
+func NameIn(tree token.Tree) (string, bool) { return read(tree, nameIn) }
+
+// KindIn a tree: that of a column; false, if it is none.
+func KindIn(tree token.Tree) (int, bool) { return read(tree, kindIn) }
+
+// ValueIn a tree: a number, a text or null; false, if it is none.
+func ValueIn(tree token.Tree) (api.Value, bool) { return read(tree, valueIn) }
 
 // planIn a tree.
 func planIn(tree token.Tree) api.Plan {
@@ -57,21 +68,21 @@ func planIn(tree token.Tree) api.Plan {
 	case api.Scan:
 		return api.Plan{Op: op, Table: nameIn(parts[0])}
 	case api.Filter, api.Join, api.LeftJoin:
-		return api.Plan{Op: op, Exprs: each(parts[:1], exprIn), Args: each(parts[1:], planIn)}
+		return api.Plan{Op: op, Exprs: token.Each(parts[:1], exprIn), Args: token.Each(parts[1:], planIn)}
 	case api.Project:
-		return api.Plan{Op: op, Exprs: each(list(parts[0]), exprIn), Args: each(parts[1:], planIn)}
+		return api.Plan{Op: op, Exprs: token.Each(list(parts[0]), exprIn), Args: token.Each(parts[1:], planIn)}
 	case api.Group:
-		return api.Plan{Op: op, Cols: each(list(parts[0]), numberIn), Aggs: each(list(parts[1]), aggIn), Args: each(parts[2:], planIn)}
+		return api.Plan{Op: op, Cols: token.Each(list(parts[0]), numberIn), Aggs: token.Each(list(parts[1]), aggIn), Args: token.Each(parts[2:], planIn)}
 	case api.Top:
-		return api.Plan{Op: op, Keys: each(list(parts[0]), keyIn), N: numberIn(parts[1]), Off: numberIn(parts[2]), Args: each(parts[3:], planIn)}
+		return api.Plan{Op: op, Keys: token.Each(list(parts[0]), keyIn), N: numberIn(parts[1]), Off: numberIn(parts[2]), Args: token.Each(parts[3:], planIn)}
 	case api.Window:
 		p := api.Plan{Op: op, Fn: place(windowWords, parts[0]), Col: numberIn(parts[1]), N: numberIn(parts[2])}
-		p.Cols, p.Keys, p.Args = each(list(parts[3]), numberIn), each(list(parts[4]), keyIn), each(parts[5:], planIn)
+		p.Cols, p.Keys, p.Args = token.Each(list(parts[3]), numberIn), token.Each(list(parts[4]), keyIn), token.Each(parts[5:], planIn)
 		return p
 	case api.Empty:
-		return api.Plan{Op: op, Cols: each(list(parts[0]), kindIn)}
+		return api.Plan{Op: op, Cols: token.Each(list(parts[0]), kindIn)}
 	}
-	return api.Plan{Op: op, Args: each(parts, planIn)}
+	return api.Plan{Op: op, Args: token.Each(parts, planIn)}
 }
 
 // partsOf a plan's list, behind its word; a Union may have any number.
@@ -99,7 +110,14 @@ func exprIn(tree token.Tree) api.Expr {
 	n, parts := headed(tree, exprWords)
 	op := api.Neg + n - 1
 	ensure(len(parts) == expr.Arity(op))
-	return api.Expr{Op: op, Args: each(parts, exprIn)}
+	return api.Expr{Op: op, Args: token.Each(parts, exprIn)}
+}
+
+// valueIn a tree: that of an expression that is a constant.
+func valueIn(tree token.Tree) api.Value {
+	e := exprIn(tree)
+	ensure(e.Op == api.Const)
+	return e.V
 }
 
 // leafIn a word: a column, null or a number.
@@ -165,13 +183,4 @@ func place(words string, tree token.Tree) int {
 	at := slices.Index(strings.Fields(words), tree.S)
 	ensure(tree.Kind == token.Word && at >= 0)
 	return at + 1
-}
-
-// each of the trees, read so.
-func each[T any](trees []token.Tree, read func(token.Tree) T) []T {
-	var all []T
-	for _, tree := range trees {
-		all = append(all, read(tree))
-	}
-	return all
 }

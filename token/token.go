@@ -34,6 +34,15 @@ func Read(text string) (Tree, bool) {
 	return tree, true
 }
 
+// Each of the trees, read so.
+func Each[T any](trees []Tree, read func(Tree) T) []T {
+	var all []T
+	for _, tree := range trees {
+		all = append(all, read(tree))
+	}
+	return all
+}
+
 // Number that a word is; false, if it is none, or is not written as numbers
 // are.
 func Number(word string) (int64, bool) {

@@ -199,3 +199,15 @@ func TestListed(t *testing.T) {
 		}
 	}
 }
+
+func TestEach(t *testing.T) {
+	sizes := func(parts ...token.Tree) []int {
+		return token.Each(parts, func(tree token.Tree) int { return len(tree.S) })
+	}
+	if got := sizes(word("abc"), text(""), list(), word("a")); !slices.Equal(got, []int{3, 0, 0, 1}) {
+		t.Errorf("Each: %v", got)
+	}
+	if got := sizes(); len(got) != 0 {
+		t.Errorf("Each of none: %v", got)
+	}
+}
