@@ -27,7 +27,8 @@ func (s *search) best(p api.Plan) api.Plan {
 func (s *search) improved(p api.Plan, whole func(api.Plan) api.Plan) api.Plan {
 	p = s.rejoined(p, whole)
 	for i, arg := range p.Args {
-		p = withArg(p, i, s.improved(arg, func(q api.Plan) api.Plan { return whole(withArg(p, i, q)) }))
+		better := s.improved(arg, func(q api.Plan) api.Plan { return whole(withArg(p, i, q)) })
+		p = withArg(p, i, better)
 	}
 	return p
 }

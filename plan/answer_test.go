@@ -86,6 +86,7 @@ func TestJoinsWhicheverSideIsLess(t *testing.T) {
 }
 
 func TestGroups(t *testing.T) {
+	answers(t, "(group (0) () (scan one))", []api.Table{table("one", "i", []api.Value{n(1)})}, `[1]`)
 	answers(t, "(group (0) () (scan l))", letters(), `[-][-1][3]`)
 	answers(t, "(group (1) ((countall 0) (count 0) (sum 0)) (scan l))", letters(), `[- 2 1 3]["a" 3 2 2]["b" 2 2 6]`)
 	answers(t, "(group (1 0) ((countall 0)) (scan l))", letters(), `[- - 1][- 3 1]["a" - 1]["a" -1 1]["a" 3 1]["b" 3 2]`)

@@ -50,7 +50,9 @@ func (g *groups) placeOf(common []api.Value) int {
 
 // Add a row to its group.
 func (g *groups) Add(row []api.Value) {
-	one := g.list[g.placeOf(At(row, g.plan.Cols))]
+	// The list is read only behind placeOf, which may make it longer.
+	at := g.placeOf(At(row, g.plan.Cols))
+	one := g.list[at]
 	for i, agg := range g.plan.Aggs {
 		one.gathered[i].add(agg.Fn, row[agg.Col])
 	}

@@ -65,11 +65,11 @@ func (m maker) scan(p api.Plan, over []api.Expr) *scan {
 
 // union of the Args; an Empty is one of none.
 func (m maker) union(p api.Plan) *union {
-	u := &union{}
+	var from []flow
 	for _, arg := range p.Args {
-		u.from = append(u.from, m.flow(arg, nil))
+		from = append(from, m.flow(arg, nil))
 	}
-	return u
+	return &union{from: from}
 }
 
 // join of two Args: of the one that can have fewer rows they are held.
